@@ -1,1 +1,1 @@
-"""Ballots of 512 questions counted and taken back, and rows of 64 bytes told from the counts."""
+"""Ballots of 512 questions counted, and rows of 64 bytes chosen from, picked from, cut, multiplied and tested."""

@@ -32,6 +32,44 @@ def one(question):
     return [6, question]
 
 
+def choose(how, a, b, c):
+    return [7, how] + sized(a, b, c)
+
+
+def pick(k, w, places, a, b):
+    return [8, k, w] + sized(places, a, b)
+
+
+def fields(k, x, at):
+    return [9, k] + sized(x, at)
+
+
+def dots(k, held, base, a, b):
+    return [10, k, held] + sized(base, a, b)
+
+
+def tested(w, none, a, b):
+    return [11, w, none] + sized(a, b)
+
+
+def join(a, b, n):
+    return [12, a, b, n]
+
+
+def sized(*rows):
+    """Each row with how many numbers it has ahead of it."""
+    return [number for given in rows for number in [len(given)] + given]
+
+
+def lanes(w, numbers):
+    """The bytes of these numbers in lanes of w bytes; a number below 0 as two's complement has it."""
+    return [byte for number in numbers for byte in number.to_bytes(w, "little", signed=number < 0)]
+
+
+def padded(given):
+    return given + [0] * (64 - len(given))
+
+
 def row(*questions):
     """The row in which just these bits are 1."""
     return list(sum(1 << question for question in set(questions)).to_bytes(64, "little"))

@@ -22,6 +22,11 @@ OWN_NAMES_OF_PYTHON = (
     "repr any all divmod Exception ValueError TypeError KeyError IndexError LookupError ZeroDivisionError "
     "ArithmeticError OverflowError RuntimeError NotImplementedError StopIteration"
 ).split()
+METHODS_OF_PYTHON = (
+    "append clear copy count endswith extend find get index insert isalnum isalpha isdigit islower isspace isupper "
+    "items join keys ljust lower lstrip partition pop remove replace reverse rfind rjust rpartition rsplit rstrip "
+    "setdefault split splitlines startswith strip update upper values zfill bit_length"
+).split()
 DOUBLE = ("__init__", "__eq__", "__repr__", "__str__", "__len__")
 
 
@@ -71,8 +76,29 @@ class LanguageTest(unittest.TestCase):
             self.assertNotIsInstance(node, BARRED_NODES)
             if isinstance(node, ast.Assign):
                 self.assertEqual(len(node.targets), 1)
+                self.assertNotIsInstance(node.targets[0], (ast.Tuple, ast.List))
+            if isinstance(node, (ast.For, ast.While)):
+                self.assertEqual(node.orelse, [])
+            if isinstance(node, ast.BinOp) and isinstance(node.op, ast.Pow):
+                self.assertIsInstance(node.right, ast.Constant)
+            if isinstance(node, (ast.FunctionDef, ast.ClassDef)):
+                self.assertEqual(node.decorator_list, [])
+            if isinstance(node, ast.arguments):
+                self.assertEqual((node.vararg, node.kwarg, node.kwonlyargs, node.posonlyargs), (None, None, [], []))
             if isinstance(node, ast.Constant):
                 self.assertNotIsInstance(node.value, (float, bytes, complex))
+
+    def test_the_top_of_a_file(self):
+        for tree in trees():
+            self.assertIsNotNone(ast.get_docstring(tree))
+            for node in tree.body[1:]:
+                self.assertIsInstance(node, (ast.ImportFrom, ast.FunctionDef, ast.ClassDef, ast.Assign))
+                if isinstance(node, ast.Assign):
+                    # A plain value is one that can be read without running anything.
+                    ast.literal_eval(node.value)
+            names = [target.id for node in tree.body if isinstance(node, ast.Assign) for target in node.targets]
+            names += [node.name for node in tree.body if isinstance(node, (ast.FunctionDef, ast.ClassDef))]
+            self.assertEqual(len(names), len(set(names)))
 
     def test_imports_are_the_packages_own(self):
         for node in all_nodes():
@@ -88,6 +114,17 @@ class LanguageTest(unittest.TestCase):
             for node in ast.walk(tree):
                 if isinstance(node, ast.Name) and node.id not in bound:
                     self.assertIn(node.id, OWN_NAMES_OF_PYTHON)
+
+    def test_methods(self):
+        own = {node.name for node in all_nodes() if isinstance(node, ast.FunctionDef)}
+        for node in all_nodes():
+            if isinstance(node, ast.Call) and isinstance(node.func, ast.Attribute):
+                self.assertIn(node.func.attr, own.union(METHODS_OF_PYTHON))
+
+    def test_texts(self):
+        for node in all_nodes():
+            if isinstance(node, ast.Constant) and isinstance(node.value, str):
+                self.assertNotIn("%", node.value)
 
     def test_barred_words(self):
         for text in texts():
